@@ -13,15 +13,19 @@ import (
 func ready(t *testing.T, lines string) impl.Start {
 	t.Helper()
 	return impl.Start{
-		Prog: program(t, strings.Split(lines, "; ")...),
-		Came: "\x01\x02\x03\x04\x80\xff\x07\x08\x09\x0a\x0b\x0c",
-		Tables: []impl.Table{
-			{Kind: impl.TableRow, Size: 4, Room: 3, Keys: []int{0, 1, 2}, Vals: []string{"\x00\x00\x00\x00", "\x11\x12\x13\x14", "\x21\x22\x23\xa4"}},
-			{Kind: impl.TableHash, Size: 8, Room: 2},
-			{Kind: impl.TableHash, Size: 1, Room: 2, Keys: []int{most32}, Vals: []string{"\xfe"}},
-		},
-		Rands: []int{5, most32, 7},
-		Socks: []int{7, 0, most32},
+		Prog:   program(t, strings.Split(lines, "; ")...),
+		Came:   "\x01\x02\x03\x04\x80\xff\x07\x08\x09\x0a\x0b\x0c",
+		Tables: threeTables(),
+		Rands:  []int{5, most32, 7},
+		Socks:  []int{7, 0, most32},
+	}
+}
+
+func threeTables() []impl.Table {
+	return []impl.Table{
+		{Kind: impl.TableRow, Size: 4, Room: 3, Keys: []int{0, 1, 2}, Vals: []string{"\x00\x00\x00\x00", "\x11\x12\x13\x14", "\x21\x22\x23\xa4"}},
+		{Kind: impl.TableHash, Size: 8, Room: 2},
+		{Kind: impl.TableHash, Size: 1, Room: 2, Keys: []int{most32}, Vals: []string{"\xfe"}},
 	}
 }
 
