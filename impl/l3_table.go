@@ -99,6 +99,14 @@ func withPairs(m Table, p pairs[int, string]) Table {
 	return out
 }
 
+func copiedTables(tables []Table) []Table {
+	var out []Table
+	for _, t := range tables {
+		out = append(out, withPairs(t, pairsOf(t)))
+	}
+	return out
+}
+
 func shapeOk(kind int, size int, room int) bool {
 	return (kind == TableRow || kind == TableHash) && size >= 1 && size <= SizeMax && room >= 1 && room <= RoomMax
 }
