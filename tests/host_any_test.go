@@ -3,6 +3,7 @@ package tests
 import (
 	"math/rand"
 	"slices"
+	"strconv"
 	"strings"
 	"testing"
 
@@ -473,13 +474,26 @@ func doings() map[string]func(h impl.Host) impl.Host {
 	}
 }
 
+// allDoings are doings, and plays of each kind of event.
+func allDoings() map[string]func(h impl.Host) impl.Host {
+	out := doings()
+	out["PlayAll"] = func(h impl.Host) impl.Host { h, _ = impl.PlayAll(h, eachEvent(1)); return h }
+	out["PlayAll of none"] = func(h impl.Host) impl.Host { h, _ = impl.PlayAll(h, nil); return h }
+	for _, id := range []int{1, 2, 1002, 3001} {
+		for _, e := range append(eachEvent(id), impl.Event{}, impl.Event{Kind: 7, Id: id}) {
+			out["PlayStep "+strconv.Itoa(e.Kind)+" of "+strconv.Itoa(id)] = func(h impl.Host) impl.Host { h, _ = impl.PlayStep(h, e); return h }
+		}
+	}
+	return out
+}
+
 func TestHostsAreNewMemory(t *testing.T) {
 	for _, lines := range []string{steered, counted} {
 		h := busyHost(t)
 		h.Prog = program(t, strings.Split(lines, "; ")...)
 		h.Slots[1].Buf = "\x00"
 		h.Slots[2] = impl.Slot{Open: true, Gen: 1, Buf: "\x02\x02\x05"}
-		for name, do := range doings() {
+		for name, do := range allDoings() {
 			given, kept := roomyHost(h), roomyHost(h)
 			answer, again := do(given), do(given)
 			if !impl.HostOk(answer) || !sameHost(answer, again) {
@@ -512,7 +526,7 @@ func TestHostsOfSharedLists(t *testing.T) {
 			t.Errorf("slot %d has %q", at, s.In)
 		}
 	}
-	for name, do := range doings() {
+	for name, do := range allDoings() {
 		x := do(h)
 		spoilHost(t, name, x)
 		y := do(h)
